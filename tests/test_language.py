@@ -31,6 +31,9 @@ STATEMENTS = (ast.Assign, ast.AugAssign, ast.AnnAssign, ast.If, ast.While, ast.F
               ast.Pass, ast.Raise, ast.Assert, ast.Delete, ast.Nonlocal, ast.Match, ast.With, ast.Try, ast.Expr,
               ast.FunctionDef, ast.ClassDef, ast.ImportFrom)
 OVER_LISTS = ("any", "all", "min", "max", "sum", "sorted")
+AT_ONCE = ("zip", "enumerate", "reversed", "range", "items", "keys", "values")
+TAKING = ("list", "tuple", "dict", "sorted", "sum", "any", "all", "enumerate", "zip", "bytes", "min", "max", "join",
+          "len", "reversed")
 
 
 def files():
@@ -118,6 +121,28 @@ class Names(unittest.TestCase):
                 tree = ast.parse((FOLDER / (node.module.partition(".")[2] + ".py")).read_text("ascii"))
                 self.assertLessEqual({name.name for name in node.names}, defined(tree), (path, node.lineno))
 
+    def test_no_two_files_import_from_each_other(self):  # L16
+        needed = {path.stem: set() for path in files()}
+        for path, node in nodes(ast.ImportFrom):
+            needed[path.stem].add(node.module.rpartition(".")[2])
+        while needed:
+            ready = [name for name in needed if not needed[name] & set(needed)]
+            self.assertTrue(ready, needed)
+            for name in ready:
+                del needed[name]
+
+    def test_nothing_inside_is_called_as_an_import_or_a_class(self):  # L15
+        for path, tree in trees():
+            barred = {node.name for node in tree.body if isinstance(node, ast.ClassDef)}
+            for node in tree.body:
+                if isinstance(node, ast.ImportFrom):
+                    barred.update(name.name for name in node.names)
+            for node in ast.walk(tree):
+                if isinstance(node, ast.arg):
+                    self.assertNotIn(node.arg, barred, (path, node.lineno))
+                elif isinstance(node, ast.Name) and isinstance(node.ctx, ast.Store):
+                    self.assertNotIn(node.id, barred, (path, node.lineno))
+
     def test_methods_and_attributes_have_unlike_names(self):  # L18
         methods = {item.name for _, node in nodes(ast.ClassDef) for item in node.body
                    if isinstance(item, ast.FunctionDef) and not item.decorator_list}
@@ -150,7 +175,24 @@ def class_names():
     return found
 
 
+def called(node):
+    """The name by which a call calls, or None."""
+    if not isinstance(node, ast.Call):
+        return None
+    return node.func.id if isinstance(node.func, ast.Name) else node.func.attr
+
+
 class Rows(unittest.TestCase):
+    def test_iterated_at_once(self):  # L23
+        for path, tree in trees():
+            for holder in ast.walk(tree):
+                heads = [holder.iter] if isinstance(holder, (ast.For, ast.comprehension)) else []
+                if isinstance(holder, ast.Compare):
+                    heads = [right for sign, right in zip(holder.ops, holder.comparators) if isinstance(sign, ast.In)]
+                for node in ast.iter_child_nodes(holder):
+                    if called(node) in AT_ONCE and node not in heads:
+                        self.assertIn(called(holder), TAKING, (path, node.lineno))
+
     def test_module_level(self):  # L3, L15
         for path, tree in trees():
             bound = []

@@ -5,25 +5,13 @@ import itertools
 import random
 import unittest
 
+from samples import FAR, full_web, plain_is_map, plain_maps, refusal, small_webs, some_webs
 from wardweb import maps
 from wardweb.errors import BadNumber, BadPoint, TooMany
+from wardweb.made import beside, lots, path, power, times
 from wardweb.maps import MOST_ALIKE, MOST_TOLD, MOST_WAYS, all_maps, alike, count_maps, first_map, is_map, led, ways
-from wardweb.webs import COLOURS, MARKS, Web, read_web
-
-FAR = 10 ** 30 - 1
-
-
-def plain_is_map(one, other, images):
-    """What [5] says, word for word, of a list of the right length with points of the other."""
-    arrows = set(other.arrows())
-    marks = set(other.marks())
-    return (all((colour, images[start], images[end]) in arrows for colour, start, end in one.arrows())
-            and all((mark, images[point]) in marks for mark, point in one.marks()))
-
-
-def plain_maps(one, other):
-    lists = itertools.product(range(other.points()), repeat=one.points())
-    return [list(images) for images in lists if plain_is_map(one, other, images)]
+from wardweb.wards import ward
+from wardweb.webs import COLOURS, Web, read_web
 
 
 def numbered_anew(web, images):
@@ -36,32 +24,6 @@ def plain_alike(one, other):
         if numbered_anew(one, images) == other:
             return list(images)
     return None
-
-
-def some_webs(seed, many, most_points, density):
-    """Webs of several sizes, the same ones in each run."""
-    dice = random.Random(seed)
-    made = []
-    for _ in range(many):
-        points = dice.randint(0, most_points)
-        arrows = [arrow for arrow in itertools.product(COLOURS, range(points), range(points))
-                  if dice.random() < density]
-        marks = [mark for mark in itertools.product(MARKS, range(points)) if dice.random() < density]
-        made.append(Web(points, arrows=arrows, marks=marks))
-    return made
-
-
-def small_webs():
-    """All webs of at most two points with arrows and marks of one kind."""
-    made = []
-    for points in range(3):
-        arrows = list(itertools.product("b", range(points), range(points)))
-        things = arrows + list(itertools.product("q", range(points)))
-        for size in range(len(things) + 1):
-            for some in itertools.combinations(things, size):
-                made.append(Web(points, arrows=[tie for tie in some if len(tie) == 3],
-                                marks=[tie for tie in some if len(tie) == 2]))
-    return made
 
 
 class Interface(unittest.TestCase):
@@ -136,11 +98,10 @@ class Judged(unittest.TestCase):
                 self.assertEqual(is_map(one, other, list(images)), inside and plain_is_map(one, other, images))
 
     def test_the_greatest_webs(self):
-        arrows = list(itertools.product(COLOURS, range(81), range(81)))
-        marks = list(itertools.product(MARKS, range(81)))
-        great = Web(81, arrows=arrows, marks=marks)
+        great = full_web(81)
+        lacking = Web(81, arrows=great.arrows()[:-1], marks=great.marks())
         self.assertTrue(is_map(great, great, list(range(80, -1, -1))))
-        self.assertFalse(is_map(great, Web(81, arrows=arrows[:-1], marks=marks), list(range(81))))
+        self.assertFalse(is_map(great, lacking, list(range(81))))
 
     def test_images_are_not_changed(self):
         images = [1, 0]
@@ -297,6 +258,57 @@ class Bounds(unittest.TestCase):
         other = read_web("2 0b1")
         self.assertIsNone(first_map(one, other))
         self.assertEqual(count_maps(one, other), 0)
+
+
+class GreaterWebs(unittest.TestCase):
+    """[6] with webs that are made of others."""
+
+    def test_ways_of_made_webs(self):
+        self.assertEqual(ways(path("a> b<"), power(Web(3), Web(4))), 81 ** 3)
+        self.assertEqual(ways(lots(Web(6)), lots(Web(2))), 3 ** 63)
+        self.assertEqual(ways(lots(Web(0)), full_web(81)), 1)
+        self.assertEqual(ways(full_web(81), ward(Web(1))), 0)
+        self.assertEqual(ways(path("a>"), ward(path("a> a> a> a> a> a> a>"))), 64 ** 2)
+
+    def test_bounds_at_the_ways_one_less_none_and_beyond(self):
+        pairs = [(path("a>"), times(full_web(9), full_web(9))), (path("a> a>"), ward(path("a> a> a> a> a> a> a>"))),
+                 (beside(path("a>"), path("b<")), lots(full_web(4))), (lots(full_web(3)), full_web(3))]
+        for one, other in pairs:
+            all_ways = other.points() ** one.points()
+            self.assertLessEqual(all_ways, MOST_WAYS)
+            for search in (first_map, count_maps):
+                told = search(one, other)
+                for most in (all_ways, all_ways + 1, MOST_WAYS):
+                    self.assertEqual(search(one, other, most=most), told)
+                for most in (1, all_ways - 1):
+                    self.assertEqual(refusal(TooMany, search, one, other, most=most).bound, most)
+                for most in (0, -all_ways, MOST_WAYS + 1, FAR):
+                    self.assertEqual(refusal(BadNumber, search, one, other, most=most).number, most)
+
+    def test_bad_number_ahead_of_too_many(self):
+        great = power(full_web(3), full_web(4))
+        for search in (first_map, count_maps):
+            for most in (0, -1, MOST_WAYS + 1):
+                self.assertEqual(refusal(BadNumber, search, great, great, most=most).number, most)
+            self.assertEqual(refusal(TooMany, search, great, great).bound, MOST_WAYS)
+            self.assertEqual(refusal(TooMany, search, path("a> a>"), times(Web(1), Web(67))).bound, MOST_WAYS)
+
+    def test_counts_of_greater_webs(self):
+        great = times(full_web(9), full_web(9))
+        self.assertEqual(count_maps(path("a> p"), great), 81 ** 2)
+        # The first choice is the arrow from point 0 at both of its ends; with 32 begin those that are another at 1.
+        self.assertEqual(first_map(path("a> b>"), ward(path("a> a> a> a> a> a> a>"))), [0, 32, 0])
+        self.assertEqual(count_maps(lots(full_web(4)), full_web(2)), 2 ** 15)
+
+    def test_told_just_within_the_bound_and_beyond(self):
+        self.assertEqual(len(all_maps(path("a>"), times(full_web(7), full_web(10)))), 70 ** 2)
+        self.assertEqual(len(all_maps(path("a> a>"), full_web(17))), 17 ** 3)
+        self.assertEqual(len(all_maps(path("a> a> a>"), times(full_web(2), full_web(4)))), 8 ** 4)
+        self.assertEqual(all_maps(path("a>"), ward(path("a>"))), [])
+        for one, other in ((path("a>"), full_web(71)), (path("a> a>"), full_web(18)), (path("b<"), Web(71)),
+                           (path("a> a> a>"), times(full_web(3), full_web(3))), (Web(81), Web(2))):
+            self.assertGreater(ways(one, other), MOST_TOLD)
+            self.assertEqual(refusal(TooMany, all_maps, one, other).bound, MOST_TOLD)
 
 
 class Likeness(unittest.TestCase):

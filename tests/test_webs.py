@@ -3,18 +3,12 @@
 import itertools
 import unittest
 
+from samples import FAR, full_web
 from wardweb import webs
 from wardweb.errors import BadArrow, BadMark, BadPoint, BadSize, BadText, WebError
 from wardweb.webs import COLOURS, MARKS, MOST_POINTS, Web, read_web
 
 SAMPLE = Web(3, arrows=[("a", 0, 1), ("a", 1, 2), ("b", 0, 0)], marks=[("p", 2)])
-FAR = 10 ** 30 - 1
-
-
-def full_web(points):
-    arrows = list(itertools.product(COLOURS, range(points), range(points)))
-    marks = list(itertools.product(MARKS, range(points)))
-    return Web(points, arrows=arrows, marks=marks)
 
 
 class Making(unittest.TestCase):
