@@ -29,9 +29,8 @@ class Reading:
         # Whether a part has just ended, so that something joins or closes next.
         self.behind_part = False
 
-    def take_part(self, at, part):
-        """A name, or what stands in a name's place."""
-        self.refuse_behind_part(at)
+    def take_part(self, part):
+        """A name, or what stands in a name's place, where a part may begin."""
         self.whole_parts.append(part)
         self.many_parts += 1
         self.behind_part = True
@@ -117,6 +116,19 @@ def is_name(text):
     return 1 <= len(text) <= LONGEST_NAME and all([sign in LETTERS for sign in text])
 
 
-def in_brackets(text, needed):
-    """The text, in brackets where these are needed."""
-    return f"({text})" if needed else text
+def read_whole(reading, text, read_further):
+    """All of the text as one, where read_further reads what stands at a place and tells the place behind it."""
+    at = 0
+    while at < len(text):
+        at = read_further(reading, text, at)
+    return reading.take_end(at)
+
+
+def joined_text(text_within, joined, sign, own, rank):
+    """The text of two parts that a sign joins, in brackets where the sign binds less close than the rank.
+
+    text_within tells likewise the text of a part.
+    """
+    # Equal ones are read from the left, so behind the sign these need brackets, too.
+    text = f"{text_within(joined[1], own)} {sign} {text_within(joined[2], own + 1)}"
+    return f"({text})" if own < rank else text

@@ -2,7 +2,7 @@
 
 from wardweb.errors import BadSaying, BadText, NoTree
 from wardweb.nearby import points_of
-from wardweb.reading import CLOSEST, LETTERS, Reading, in_brackets, name_at
+from wardweb.reading import CLOSEST, LETTERS, Reading, joined_text, name_at, read_whole
 from wardweb.trees import refuse_no_tree, spots
 from wardweb.wards import into_ward
 
@@ -16,10 +16,7 @@ SIGNS = {"or": (1, "|"), "and": (2, "&")}
 def read_saying(text):
     """The saying of a text."""
     reading = Reading(dict(JOINING), most_parts=MOST_NAMES, most_open=MOST_OPEN)
-    at = 0
-    while at < len(text):
-        at = read_further(reading, text, at)
-    return reading.take_end(at)
+    return read_whole(reading, text, read_further)
 
 
 def read_further(reading, text, at):
@@ -27,7 +24,7 @@ def read_further(reading, text, at):
     if text[at] in LETTERS:
         reading.refuse_behind_part(at)
         name = name_at(text, at)
-        reading.take_part(at, ("tree", name))
+        reading.take_part(("tree", name))
         return at + len(name)
     if text[at] == "!":
         if text[:at].count("!") == MOST_NOTS:
@@ -51,9 +48,7 @@ def text_within(saying, rank):
     if word == "not":
         return "!" + text_within(saying[1], CLOSEST)
     own, sign = SIGNS[word]
-    # Equal ones are read from the left, so behind the sign these need brackets, too.
-    text = f"{text_within(saying[1], own)} {sign} {text_within(saying[2], own + 1)}"
-    return in_brackets(text, own < rank)
+    return joined_text(text_within, saying, sign, own, rank)
 
 
 def names_of(saying):
